@@ -30,6 +30,16 @@ func within[T cmp.Ordered](n T, low T, high T) bool {
 	return !greater(low, n) && !greater(n, high)
 }
 
+// allUpTo says whether all numbers lie between 0 and a bound.
+func allUpTo(high int, list ...int) bool {
+	for _, n := range list {
+		if !within(n, 0, high) {
+			return false
+		}
+	}
+	return true
+}
+
 func (a LblLabel) ok() bool {
 	return within(a.Level, 0, LblMaxLevel) && within(a.Marks, 0, LblMaxMarks)
 }

@@ -44,16 +44,6 @@ func sealRaised(b []byte, more int) []int {
 	return list
 }
 
-// sealUpTo says whether all numbers lie between 0 and a bound.
-func sealUpTo(high int, list ...int) bool {
-	for _, n := range list {
-		if !within(n, 0, high) {
-			return false
-		}
-	}
-	return true
-}
-
 // sealMay says whether something may be sealed.
 func sealMay(key int, seq int, head []byte, body []byte) bool {
 	return within(key, 0, SealMaxKey) && within(seq, 0, SealMaxSeq) && len(head) <= BytMaxRaw && len(body) <= BytMaxRaw
@@ -74,7 +64,7 @@ func sealHidden(key int, seq int, body []byte) []byte {
 
 // SealKey is the key of a tunnel.
 func SealKey(secret int, from int, to int, boot int, peer int, epoch int) int {
-	if !within(secret, 0, SealMaxKey) || !sealUpTo(sealMaxByte, from, to, epoch) || !sealUpTo(sealMaxPair, boot, peer) {
+	if !within(secret, 0, SealMaxKey) || !allUpTo(sealMaxByte, from, to, epoch) || !allUpTo(sealMaxPair, boot, peer) {
 		return 0
 	}
 	mill := sealMill{x: uint32(secret)}

@@ -3,6 +3,7 @@ package tests
 import (
 	"bytes"
 	"math"
+	"slices"
 	"testing"
 )
 
@@ -44,21 +45,21 @@ func (d *draw) bytes(n int) []byte {
 	return out
 }
 
-// fenced lies between bytes that nobody may touch, those behind it being its spare room.
-type fenced struct {
-	all  []byte
-	was  []byte
-	list []byte
+// fenced lies between things that nobody may touch, those behind it being its spare room.
+type fenced[T comparable] struct {
+	all  []T
+	was  []T
+	list []T
 }
 
-func fence(b []byte) *fenced {
-	all := bytes.Repeat([]byte{0xA5}, len(b)+64)
-	copy(all[16:], b)
-	return &fenced{all: all, was: bytes.Clone(all), list: all[16 : 16+len(b)]}
+func fence[T comparable](list []T, mark T) *fenced[T] {
+	all := slices.Repeat([]T{mark}, len(list)+64)
+	copy(all[16:], list)
+	return &fenced[T]{all: all, was: slices.Clone(all), list: all[16 : 16+len(list)]}
 }
 
-func (f *fenced) untouched() bool {
-	return bytes.Equal(f.all, f.was)
+func (f *fenced[T]) untouched() bool {
+	return slices.Equal(f.all, f.was)
 }
 
 // checkMemory calls with fenced arguments, writes all over the answer, spare
@@ -66,10 +67,10 @@ func (f *fenced) untouched() bool {
 // second answer what the first one was.
 func checkMemory(t *testing.T, name string, call func(list [][]byte) []byte, args ...[]byte) {
 	t.Helper()
-	var fences []*fenced
+	var fences []*fenced[byte]
 	var lists [][]byte
 	for _, a := range args {
-		f := fence(a)
+		f := fence(a, 0xA5)
 		fences = append(fences, f)
 		lists = append(lists, f.list)
 	}
