@@ -1199,6 +1199,94 @@ func TestP31NodesTalk(t *testing.T) {
 	}
 }
 
+// A slot of one's own has one frame that is right, with the node, its life and its number at its head; any other one has none.
+func TestP28OneFrameInEachSlotOfOnesOwn(t *testing.T) {
+	d, said, none := &draw{x: 28}, 0, 0
+	for _, p := range append(nodePlans(d, 1200), busPlan()) {
+		for at := range p.Nodes {
+			n := drawNode(d, p, at)
+			for slot, s := range p.Slots {
+				w := impl.WldWorld{Plan: p, Nodes: make([]impl.NodNode, p.Nodes), Now: slot}
+				w.Nodes[at] = n
+				want := impl.FrmHead{}
+				if s.Node == at {
+					want = ownHead(w)
+				}
+				after, b, took := checkSays(t, p, n, at, slot)
+				if want.Kind == 0 {
+					if none++; len(b) != 0 || took || !sameNode(after, n) {
+						t.Fatalf("the slot %d at %d of %v has the frame %v, and then it is %v", slot, at, n, b, after)
+					}
+					continue
+				}
+				if said++; len(b) != impl.FrmLen || !impl.WldRight(p, b) || !plainRight(p, b) || plainHeadOf(b) != want || want.From != at || want.Boot != n.Boot {
+					t.Fatalf("the slot %d at %d of %v has the frame %v, not %v", slot, at, n, b, want)
+				}
+			}
+		}
+	}
+	if said < 2000 || none < 5000 {
+		t.Error("too few of a sort:", said, none)
+	}
+}
+
+// A word that is right, and for this node in this life, is opened; what is not right changes nothing.
+func TestP30WhatIsSaidIsOpened(t *testing.T) {
+	d, opened, wrong := &draw{x: 30}, 0, 0
+	for _, p := range append(nodePlans(d, 1500), busPlan()) {
+		for at := range p.Nodes {
+			n := drawNode(d, p, at)
+			for slot, s := range p.Slots {
+				b := drawFrame(d, p, n, slot)
+				after, code := impl.NodHears(p, n, at, slot, b)
+				if !impl.WldRight(p, b) {
+					if wrong++; code > impl.BusShut || !sameNode(after, n) {
+						t.Fatalf("%v is not right, and heard with %d: %v, and then %v", b, code, n, after)
+					}
+					continue
+				}
+				h := plainHeadOf(b)
+				if n.Up && h.Kind == impl.FrmWord && h.Way == s.Way && h.From == s.Node && h.From != at && h.To == at && h.Peer == n.Boot {
+					_, to := plainEnds(p, s.Way)
+					if to != at {
+						continue
+					}
+					if opened++; code != impl.BusOld && code < impl.BusEmpty {
+						t.Fatalf("%v is for %v, but heard with %d", b, n, code)
+					}
+				}
+			}
+		}
+	}
+	if opened < 300 || wrong < 1000 {
+		t.Error("too few of a sort:", opened, wrong)
+	}
+}
+
+// What one node says in a slot its other end opens, from its first number to its last one.
+func TestP30SaidAndOpened(t *testing.T) {
+	d, p := &draw{x: 301}, busPlan()
+	for range 400 {
+		a, b := drawUp(d, p, 0), drawUp(d, p, 1)
+		for k := range 2 {
+			a.Heard.Boots[1], a.Outs[k].Peer = b.Boot, b.Boot
+			b.Ins[k] = impl.InIn{Boot: a.Boot, Epoch: a.Outs[k].Epoch, Seq: a.Outs[k].Seq}
+		}
+		for _, slot := range []int{3, 4, 10} {
+			after, frame, took := checkSays(t, p, a, 0, slot)
+			a = after
+			if len(frame) == 0 {
+				continue
+			}
+			heard, code := checkHears(t, p, b, 1, slot, frame)
+			if !impl.WldRight(p, frame) || code < impl.BusEmpty || took != (code > impl.BusEmpty) {
+				t.Fatalf("%v is said, and heard with %d", frame, code)
+			}
+			b = heard
+		}
+	}
+}
+
 // silent says that the three functions answer nothing of a node.
 func silent(t *testing.T, name string, p impl.PlnPlan, n impl.NodNode, at int, slot int, b []byte) {
 	t.Helper()
